@@ -1,0 +1,1 @@
+"""Wornrigs: rigs of strands that weaken with every lift."""
