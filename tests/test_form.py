@@ -21,6 +21,22 @@ def files():
     return sorted(PACKAGE.glob("*.py"))
 
 
+def defined_names(path):
+    """The names of the functions, classes and values at module level."""
+    for part in ast.parse(path.read_text()).body:
+        if isinstance(part, (ast.FunctionDef, ast.ClassDef)):
+            yield part.name
+        elif isinstance(part, ast.Assign):
+            yield part.targets[0].id
+
+
+def imported_files(path):
+    """The files that the file imports from."""
+    for node in ast.walk(ast.parse(path.read_text())):
+        if isinstance(node, ast.ImportFrom):
+            yield PACKAGE / (node.module.split(".")[-1] + ".py")
+
+
 def bound_names(tree):
     for node in ast.walk(tree):
         if isinstance(node, ast.FunctionDef):
@@ -62,9 +78,28 @@ class FormTest(unittest.TestCase):
                 if isinstance(node, ast.ImportFrom):
                     source = PACKAGE / (node.module.split(".")[-1] + ".py")
                     self.assertEqual((node.module.split(".")[0], node.level), ("wornrigs", 0))
-                    defined = [part.name for part in ast.parse(source.read_text()).body if hasattr(part, "name")]
+                    defined = list(defined_names(source))
                     for alias in node.names:
                         self.assertIn(alias.name, defined)
+                        self.assertIsNone(alias.asname)
+
+    def test_no_circle_of_imports(self):
+        for path in files():
+            reached, waiting = set(), [path]
+            while waiting:
+                fresh = set(imported_files(waiting.pop())) - reached
+                reached |= fresh
+                waiting.extend(fresh)
+            self.assertNotIn(path, reached)
+
+    def test_one_binding_at_module_level(self):
+        for path in files():
+            imported = [
+                alias.name for node in ast.walk(ast.parse(path.read_text())) if isinstance(node, ast.ImportFrom)
+                for alias in node.names
+            ]
+            bound = list(defined_names(path)) + imported
+            self.assertEqual(len(set(bound)), len(bound), path)
 
     def test_names(self):
         builtin_names = set(dir(__builtins__) if not isinstance(__builtins__, dict) else __builtins__)

@@ -18,6 +18,19 @@ INTERFACE = {
         "is_feasible": ["rig", "loads"], "is_always_feasible": ["rig", "loads"], "best_remaining": ["rig", "loads"],
         "always_remaining": ["rig", "loads"], "count_orders": ["rig", "loads"], "first_order": ["rig", "loads"],
     },
+    "limits": {
+        "repeat_count": ["rig", "load"], "repeat_subset": ["rig", "load"], "largest_extra": ["rig", "loads"],
+        "smallest_drop": ["rig", "loads"],
+    },
+    "repairs": {
+        "smallest_strength": ["rig", "name", "loads"], "largest_wear": ["rig", "name", "loads"],
+        "reinforcement": ["rig", "loads"],
+    },
+    "yards": {
+        "assign_loads": ["yard", "loads"], "most_loads": ["yard", "loads"], "fewest_rigs": ["yard", "loads"],
+        "best_tree": ["strands", "load"],
+    },
+    "inference": {"matching_orders": ["rig", "loads", "names"], "first_difference": ["one", "other"]},
 }
 
 BEYOND_RIGS = (
@@ -40,14 +53,40 @@ def functions():
 
 def random_arguments(rng, parameters):
     """Allowed arguments; every list and tuple in them is the caller's own."""
-    rig = helper.random_rig(rng)
+    rig = helper.random_rig(rng, 4)
+    names = helper.names_of(rig)
+    strands = helper.strands_of(rig) if len(names) > 1 else [("a", 9, 1), ("b", 5, 0), ("c", 6, 2)]
     known = {
         "rig": rig,
         "sequence": helper.random_sequence(rng, rig),
         "loads": helper.random_loads(rng, rig, 4),
-        "value": [rig, [rig, [list(helper.names_of(rig))]], (helper.names_of(rig),)][rng.randrange(3)],
+        "value": [rig, [rig, [list(names)]], (names,)][rng.randrange(3)],
+        "load": helper.random_load(rng, rig),
+        "name": rng.choice(names),
+        "names": rng.choice([(), names] + helper.all_subsets(rig)),
+        "yard": helper.random_yard(rng),
+        "strands": tuple(sorted(strands)),
+        "one": rig,
+        "other": helper.random_rig(rng),
     }
     return [known[name] for name in parameters]
+
+
+def first_name(tree):
+    """The name of the leftmost strand."""
+    return tree if isinstance(tree, str) else first_name(tree[0])
+
+
+def beyond_arguments(rig, sequence, loads, parameters):
+    """Arguments that go somewhat beyond the limits of the document."""
+    name = first_name(rig)
+    known = {
+        "rig": rig, "sequence": sequence, "loads": loads, "value": (("a",),) * len(sequence),
+        "load": max(loads, default=0), "name": name, "names": (name,), "yard": (rig, helper.RIG, rig, ("z", 150, 30)),
+        "strands": (("a", 150, 0), ("b", 0, 25), ("c", 7, 2), ("d", 99, 20), ("e", 8, 3))[len(loads) - 5:],
+        "one": rig, "other": (("a", 700, 0), rig),
+    }
+    return [known[parameter] for parameter in parameters]
 
 
 class InterfaceTest(unittest.TestCase):
@@ -84,9 +123,10 @@ class InterfaceTest(unittest.TestCase):
         many_loads = ((), (0, 3), (700,), (1, 2, 3, 4, 5, 6, 7, 8), (4,) * 9, (10 ** 40,), (-1, 3))
         for rig in BEYOND_RIGS + (helper.RIG,):
             for function, parameters in functions():
+                # Reinforcement is promised for four strands and four loads, and these are twice as many.
+                short = function.__name__ == "reinforcement" and len(rig) > 6
                 for sequence, loads in zip(sequences, many_loads):
-                    known = {"rig": rig, "sequence": sequence, "loads": loads, "value": (("a",),) * len(sequence)}
-                    function(*[known[name] for name in parameters])
+                    function(*beyond_arguments(rig, sequence, loads[:4] if short else loads, parameters))
 
     def test_fractions_of_a_zero_load(self):
         lift_log = importlib.import_module("wornrigs.lifting").lift_log

@@ -1,4 +1,4 @@
-"""How a rig holds its loads: the one helper that the other modules share.
+"""How a rig holds its loads, and two small searches: the one helper that the other modules share.
 
 A strand always carries the load divided by a whole number, the product of the numbers of holding children on the way
 from the root to the strand. This number is called the divisor of the strand.
@@ -37,6 +37,12 @@ def divisors(tree, names):
     return {name: part[name] * len(sharing) for part in sharing for name in part}
 
 
+def least_strength(load, divisor):
+    """The smallest whole strength that carries the load divided by the divisor."""
+    # Rounding down the negative load rounds up the load.
+    return -(-load // divisor)
+
+
 def unbroken(divided, strengths, load):
     """The list of the names in `divided`, a dict of divisors, whose strands do not carry too much."""
     # Multiplying the strength instead of dividing the load keeps everything in integers.
@@ -61,6 +67,11 @@ def settle(rig, names, load, lifts):
     return divided
 
 
+def held_names(rig, names, load, lifts):
+    """The ascending tuple of those of the named strands that remain when the load is lifted after so many lifts."""
+    return tuple(sorted(settle(rig, names, load, lifts)))
+
+
 def lift_steps(rig, sequence):
     """A list with the divisors of the strands that remain in each lift that succeeds."""
     names = strand_names(rig)
@@ -72,3 +83,29 @@ def lift_steps(rig, sequence):
         steps.append(divided)
         names = tuple(divided)
     return steps
+
+
+def least(low, high, holds):
+    """The smallest number from low to high that `holds` is true of.
+
+    It must be true of all larger numbers too; of `high` it is taken to be true, without being asked.
+    """
+    while low < high:
+        middle = (low + high) // 2
+        if holds(middle):
+            high = middle
+        else:
+            low = middle + 1
+    return low
+
+
+def index_sets(many):
+    """The list of all ascending tuples of indices below `many`: those with the fewest members first, then ascending."""
+    found = []
+    equal_size = [()]
+    while equal_size:
+        found.extend(equal_size)
+        equal_size = [
+            chosen + (at,) for chosen in equal_size for at in range(chosen[-1] + 1 if chosen else 0, many)
+        ]
+    return found

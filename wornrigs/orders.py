@@ -1,6 +1,6 @@
 """In which orders a rig can lift given loads."""
 
-from wornrigs.holding import settle, strand_names
+from wornrigs.holding import held_names, strand_names
 from wornrigs.lifting import lift_count, remaining
 
 
@@ -34,17 +34,28 @@ def without(loads, load):
     return loads[:at] + loads[at + 1:]
 
 
+def next_states(rig, state, lifts):
+    """A list of pairs (load, state): what each load that is left leads to if it is lifted next and the lift succeeds.
+
+    A state is a pair (loads left, names that remain), here after so many lifts.
+    """
+    left, names = state
+    reached = []
+    for load in sorted(set(left)):
+        held = held_names(rig, names, load, lifts)
+        if held:
+            reached.append((load, (without(left, load), held)))
+    return reached
+
+
 def states_after(rig, states, lifts):
     """The states that one more lift reaches from the given ones after so many lifts (see `end_states`)."""
     after = {}
-    for (left, names), (count, first) in states.items():
-        for load in sorted(set(left)):
-            held = tuple(sorted(settle(rig, names, load, lifts)))
-            if held:
-                state = (without(left, load), held)
-                order = first + (load,)
-                known_count, known_first = after.get(state, (0, order))
-                after[state] = (known_count + count, min(known_first, order))
+    for before, (count, first) in states.items():
+        for load, state in next_states(rig, before, lifts):
+            order = first + (load,)
+            known_count, known_first = after.get(state, (0, order))
+            after[state] = (known_count + count, min(known_first, order))
     return after
 
 

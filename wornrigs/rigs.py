@@ -1,6 +1,7 @@
 """Which values are rigs."""
 
 MOST_STRANDS = 6
+LARGEST_WEAR = 20
 
 
 def is_between(value, low, high):
@@ -19,7 +20,7 @@ def is_strand(value):
     if not isinstance(value, tuple) or len(value) != 3:
         return False
     name, strength, wear = value
-    return is_name(name) and is_between(strength, 1, 99) and is_between(wear, 0, 20)
+    return is_name(name) and is_between(strength, 1, 99) and is_between(wear, 0, LARGEST_WEAR)
 
 
 def is_rig(value):
